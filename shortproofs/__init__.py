@@ -1,0 +1,1 @@
+"""Proofs made short: see README.md for how it is called."""
