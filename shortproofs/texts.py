@@ -21,6 +21,9 @@ class Text:
     def has_item(self, number):
         return 0 <= number < len(self.names)
 
+    def has_items(self, numbers):
+        return all([self.has_item(number) for number in numbers])
+
     def axiom_count(self):
         return self.sources.count(None)
 

@@ -38,6 +38,22 @@ def shorten():
     return [4]
 
 
+def short():
+    return [5]
+
+
+def order(wished, rows):
+    return [6, len(wished)] + list(wished) + [len(rows)] + list(rows)
+
+
+def least(*wished):
+    return [7, len(wished)] + list(wished)
+
+
+def totals():
+    return [8]
+
+
 def ask(*calls):
     """The answers to these calls on one new object, one list each; the list handed in has to stay as it was."""
     line = [number for call in calls for number in call]
@@ -61,12 +77,21 @@ def ask_last(*calls):
     return ask(*calls)[-1]
 
 
-def form(text):
-    """The one form of a right text, as it's shown."""
-    answer = ask_last(load(text), shown())
+def as_form(answer):
+    """The text of an answer that is a count of bytes, and they."""
     if answer[0] != len(answer) - 1:
         raise AssertionError("not as many bytes as told")
     return bytes(answer[1:]).decode("ascii")
+
+
+def form(text):
+    """The one form of a right text, as it's shown."""
+    return as_form(ask_last(load(text), shown()))
+
+
+def short_form(text):
+    """The shortened text's one form."""
+    return as_form(ask_last(load(text), short()))
 
 
 # Formulas, a second time
@@ -183,20 +208,22 @@ def told(tree, names="x{}"):
 
 
 class Proof:
-    """A text: its axioms and goals as trees, its rows as pairs of items."""
+    """A text: its axioms and goals as trees, its rows as pairs of items; names are for all items."""
 
-    def __init__(self, axioms, rows, goals):
+    def __init__(self, axioms, rows, goals, names=None):
         self.axioms = list(axioms)
         self.rows = list(rows)
         self.goals = list(goals)
+        self.names = [f"n{i}" for i in range(len(axioms) + len(rows))] if names is None else list(names)
         self.formulas = [renumbered(tree) for tree in axioms]
         for first, second in rows:
             self.formulas.append(rule(self.formulas[first], self.formulas[second]))
 
     def text(self):
-        lines = [f"axiom n{i} : {told(tree)} ;\n" for i, tree in enumerate(self.formulas[: len(self.axioms)])]
+        names = self.names
+        lines = [f"axiom {names[i]} : {told(renumbered(tree))} ;\n" for i, tree in enumerate(self.axioms)]
         for number, (first, second) in enumerate(self.rows, len(self.axioms)):
-            lines.append(f"row n{number} : n{first}, n{second} ;\n")
+            lines.append(f"row {names[number]} : {names[first]}, {names[second]} ;\n")
         lines.extend(f"goal {told(renumbered(goal))} ;\n" for goal in self.goals)
         return "".join(lines)
 
@@ -225,9 +252,9 @@ class Proof:
         return sorted(found)
 
     def merged(self):
-        result = Proof(self.axioms, [], self.goals)
+        result = Proof(self.axioms, [], self.goals, self.names[: len(self.axioms)])
         become = list(range(len(self.axioms)))
-        for first, second in self.rows:
+        for number, (first, second) in enumerate(self.rows, len(self.axioms)):
             pair = (become[first], become[second])
             formula = None if None in pair else rule(result.formulas[pair[0]], result.formulas[pair[1]])
             earlier = None if formula is None else result.first_with(formula)
@@ -237,6 +264,7 @@ class Proof:
                 become.append(len(result.formulas))
                 result.rows.append(pair)
                 result.formulas.append(formula)
+                result.names.append(self.names[number])
         return result, become
 
     def with_rows_alone(self, rows):
@@ -245,7 +273,7 @@ class Proof:
         for row in rows:
             numbers[row] = len(numbers)
             pairs.append(tuple(numbers[source] for source in self.rows[row - len(self.axioms)]))
-        return Proof(self.axioms, pairs, self.goals)
+        return Proof(self.axioms, pairs, self.goals, [self.names[item] for item in numbers])
 
     def shortened(self):
         merged = self.merged()[0]
@@ -268,6 +296,43 @@ class Proof:
     def prune_answer(self, items):
         rows = self.needed(items)
         return [len(rows)] + rows
+
+    def totals_answer(self):
+        return [len(self.targets()), len(self.needed(self.targets())), self.target_steps()]
+
+    def sources(self, row):
+        """The rows that a row is detached from."""
+        return {item for item in self.rows[row - len(self.axioms)] if item >= len(self.axioms)}
+
+    def peak(self, wished, rows):
+        """The peak of an order of rows, each behind those that it's detached from; None if it isn't such an order."""
+        most = 0
+        for at, row in enumerate(rows):
+            before = set(rows[:at])
+            used = {source for later in rows[at:] for source in self.sources(later)}
+            if not self.sources(row) <= before:
+                return None
+            most = max(most, 1 + len(before & (used | set(wished))))
+        return most
+
+    def order_answer(self, wished, rows):
+        if sorted(rows) != self.needed(wished) or self.peak(wished, rows) is None:
+            return [0]
+        return [1, self.peak(wished, rows)]
+
+    def orders(self, rows, before=()):
+        """All orders of these rows, each behind those that it's detached from, from the first to the last."""
+        if len(before) == len(rows):
+            yield list(before)
+        for row in sorted(rows):
+            if row not in before and self.sources(row) <= set(before):
+                yield from self.orders(rows, before + (row,))
+
+    def least_answer(self, wished):
+        """By going through all orders, so few rows alone are to be asked for."""
+        rows = self.needed(wished)
+        found = min((self.peak(wished, rows_in_order), rows_in_order) for rows_in_order in self.orders(rows))
+        return [found[0], len(rows)] + found[1]
 
 
 # Texts made by the tests: the same ones each time, from a seed
@@ -339,3 +404,25 @@ def random_proofs(count, most_rows=24):
         axioms = random_axioms(source)
         rows = random_rows(source, axioms, most_rows)
         yield Proof(axioms, rows, random_goals(source, Proof(axioms, rows, []).formulas, axioms))
+
+
+# Places hang on what rows are detached from alone; from an unknown something is detached always.
+ANYTHING = [("x", 0)]
+
+
+def any_rows(*pairs):
+    """A proof with one axiom, item 0, and these rows, from item 1 on."""
+    return Proof(ANYTHING, pairs, [])
+
+
+def random_places(count, most_rows):
+    """Proofs of such rows, each with items that are wished for."""
+    source = random.Random(815)
+    for _ in range(count):
+        pairs = []
+        near = source.choice([2, 4, 30])
+        for number in range(1, source.randrange(1, most_rows + 1) + 1):
+            low = max(0, number - near)
+            pairs.append(tuple(source.choice([0, source.randrange(low, number)]) for _ in range(2)))
+        wished = [source.randrange(len(pairs) + 1) for _ in range(source.randrange(1, 5))]
+        yield any_rows(*pairs), wished

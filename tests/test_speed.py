@@ -3,7 +3,7 @@
 import time
 import unittest
 
-from helper import ask, general, load, prune, shorten, shown
+from helper import any_rows, ask, general, least, load, order, prune, short, shorten, shown, totals
 
 SECONDS = 5
 
@@ -20,6 +20,8 @@ class Speed(unittest.TestCase):
         rows = self.quick(load(text), *[shorten()] * 39)[0][2]
         self.assertEqual(rows, 24)
         self.quick(load(text), *[shown()] * 39)
+        self.quick(load(text), *[short()] * 39)
+        self.quick(load(text), *[totals()] * 39)
         self.quick(load(text), *[general(item) for item in range(25)] + [general(24)] * 14)
         self.quick(load(text), *[prune(*range(24)) for _ in range(39)])
         self.quick(*[load(text)] * (16000 // (len(text) + 2)))
@@ -53,6 +55,32 @@ class Speed(unittest.TestCase):
         rows = "row r0 : i, i ; " + "".join(f"row r{i + 1} : r{i}, r{i} ; " for i in range(23))
         told = self.quick(load("axiom i : x > x ; " + rows), *[prune(*([24] * 2000))] * 7)
         self.assertEqual(told[1:], [[24] + list(range(1, 25))] * 7)
+
+    def test_least_of_8_rows(self):
+        shapes = [
+            [(0, 0)] * 24,
+            [(0, 0)] + [(i, i) for i in range(1, 24)],
+            [(0, 0)] + [(1, 0)] * 23,
+            [(0, 0)] * 4 + [(1, 2), (3, 4), (5, 6), (7, 1)] + [(0, 0)] * 16,
+        ]
+        for pairs in shapes:
+            text = any_rows(*pairs).text()
+            told = self.quick(load(text), *[least(*range(1, 9))] * 39)
+            self.assertEqual([answer[:2] for answer in told[1:]], [[8, 8]] * 39)
+            self.quick(load(text), *[least(8)] * 39)
+            self.quick(load(text), *[least(*range(25))] * 39)
+
+    def test_long_lists_of_least_and_order(self):
+        text = any_rows((0, 0), *[(i, i) for i in range(1, 24)]).text()
+        every = list(range(1, 25))
+        told = self.quick(load(text), *[least(*[8] * 2000)] * 7)
+        self.assertEqual(told[1:], [[2, 8] + every[:8]] * 7)
+        told = self.quick(load(text), *[order([24] * 2000, every)] * 7)
+        self.assertEqual(told[1:], [[1, 2]] * 7)
+        told = self.quick(load(text), *[order(every, every * 80)] * 7)
+        self.assertEqual(told[1:], [[0]] * 7)
+        told = self.quick(load(text), *[order(every, every)] * 39)
+        self.assertEqual(told[1:], [[1, 24]] * 39)
 
     def test_long_texts(self):
         self.quick(load("#" * 8192), load("( " * 2048), load("axiom k : " + "x > " * 900))
